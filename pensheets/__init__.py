@@ -1,0 +1,1 @@
+"""pensheets: drawings made with a pen, stroke by stroke."""

@@ -1,0 +1,111 @@
+"""What the tests share: drawings' texts, and the fault by its definition, found without the program."""
+
+import functools
+import re
+
+SIGNS = "abcdefghijklmnopqrstuvwxyz0123456789"
+NAME = "[a-z][a-z0-9]{0,15}"
+NUMBER = "(?:0|-?[1-9][0-9]*)"
+DRAWING = re.compile(
+    f"drawing {NAME} ({NUMBER}) ({NUMBER})\n"
+    f"((?:stroke {NAME} {NUMBER} {NUMBER}(?: {NUMBER},{NUMBER})+\n)*)"
+    f"((?:fill {NUMBER} {NUMBER},{NUMBER}\n)*)"
+)
+
+EVERYDAY = (
+    "drawing cel 12 256\n"
+    "stroke rim 1 0 0,0 -9,10\n"
+    "stroke rim2 255 16 -999,999\n"
+    "fill 9 11,255\n"
+    "fill 10 0,0\n"
+)
+
+
+def as_bytes(text):
+    return list(text.encode("latin-1"))
+
+
+def stroke_line(name, paint=1, brush=0, places=((0, 0),)):
+    told = "".join(f" {x},{y}" for x, y in places)
+    return f"stroke {name} {paint} {brush}{told}\n"
+
+
+def stroke_lines(count):
+    return "".join(stroke_line(f"s{i}") for i in range(count))
+
+
+def fill_lines(count):
+    return "fill 1 0,0\n" * count
+
+
+def greatest_text():
+    """A drawing's text than which none is longer."""
+    places = ((-999, -999),) * 64
+    strokes = "".join(stroke_line(f"abcdefghijklmn{i}", 255, 16, places) for i in range(10, 74))
+    return "drawing abcdefghijklmnop 256 256\n" + strokes + "fill 255 255,255\n" * 64
+
+
+def stroke_holds(line):
+    word, name, paint, brush, *places = line.split(" ")
+    near = all(-999 <= int(told) <= 999 for place in places for told in place.split(","))
+    return 1 <= int(paint) <= 255 and 0 <= int(brush) <= 16 and len(places) <= 64 and near
+
+
+def fill_holds(line, width, height):
+    word, paint, point = line.split(" ")
+    x, y = point.split(",")
+    return 1 <= int(paint) <= 255 and 0 <= int(x) < width and 0 <= int(y) < height
+
+
+def is_drawing(text):
+    found = DRAWING.fullmatch(text)
+    if found is None:
+        return False
+    width, height = int(found[1]), int(found[2])
+    strokes, fills = found[3].splitlines(), found[4].splitlines()
+    names = [line.split(" ")[1] for line in strokes]
+    return (
+        1 <= width <= 256 and 1 <= height <= 256
+        and len(strokes) <= 64 and len(fills) <= 64 and len(set(names)) == len(names)
+        and all(stroke_holds(line) for line in strokes)
+        and all(fill_holds(line, width, height) for line in fills)
+    )
+
+
+def endings_of(text):
+    return [text[i:] for i in range(len(text))]
+
+
+# More tails than there may be names: one of them makes of any 14 signs or fewer a name that's new.
+TAILS = [""] + list(SIGNS) + ["0" + sign for sign in SIGNS]
+SHORT_ENDINGS = (
+    [""] + endings_of("drawing a 1 1\n") + endings_of("fill 1 0,0\n")
+    + endings_of(" 1 0 0,0\n") + ["1,0\n", "1\n"]
+)
+
+
+def endings(begin):
+    """Endings among which is one that makes a drawing's text of this beginning, if any ending does."""
+    used = re.findall("stroke ([a-z0-9]+) ", begin)
+    new = next("a" + tail for tail in TAILS if "a" + tail not in used)
+    yield from SHORT_ENDINGS
+    yield from endings_of(f"stroke {new} 1 0 0,0\n")
+    for tail in TAILS:
+        yield tail + " 1 0 0,0\n"
+
+
+@functools.lru_cache(maxsize=None)
+def begins_a_drawing(begin):
+    return any(is_drawing(begin + ending) for ending in endings(begin))
+
+
+def fault(text):
+    """The fault by its definition; what begins with a beginning of no drawing's text is none either."""
+    length = 0
+    while length < len(text) and begins_a_drawing(text[:length + 1]):
+        length += 1
+    return length
+
+
+def verdict(text):
+    return [0] if is_drawing(text) else [-6, fault(text)]
