@@ -27,6 +27,11 @@ class NoDrawing(Exception):
         self.fault = fault
 
 
+# Refused by -4.
+class NoSuch(Exception):
+    pass
+
+
 class Stroke:
 
     def __init__(self, label, paint, brush, places):
@@ -202,6 +207,8 @@ def answer(t, ask):
         return [-2]
     except NoDrawing:
         return [-6]
+    except NoSuch:
+        return [-4]
 
 
 def judge(t):
@@ -221,3 +228,27 @@ def sizes_of(drawing):
 
 def sizes(t):
     return answer(t, sizes_of)
+
+
+def stroke_at(drawing, i):
+    if i >= len(drawing.strokes):
+        raise NoSuch()
+    return drawing.strokes[i]
+
+
+def name_of(drawing, k):
+    label = drawing.label if k == 0 else stroke_at(drawing, k - 1).label
+    return [len(label)] + label
+
+
+def name(k, t):
+    return answer(t, lambda drawing: name_of(drawing, k))
+
+
+def stroke_of(drawing, i):
+    found = stroke_at(drawing, i)
+    return [found.paint, found.brush, len(found.places)]
+
+
+def stroke(i, t):
+    return answer(t, lambda drawing: stroke_of(drawing, i))

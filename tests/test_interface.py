@@ -9,7 +9,7 @@ import unittest
 from helper import EVERYDAY, as_bytes, greatest_text
 from pensheets import drawings
 
-ARGUMENTS = {"judge": ["t"], "sizes": ["t"]}
+ARGUMENTS = {"judge": ["t"], "sizes": ["t"], "name": ["k", "t"], "stroke": ["i", "t"]}
 TEXTS = ["", "drawing a 1 1\n", EVERYDAY, EVERYDAY[:-1], EVERYDAY + "x", " " * 65537]
 
 
