@@ -230,14 +230,14 @@ def sizes(t):
     return answer(t, sizes_of)
 
 
-def stroke_at(drawing, i):
-    if i >= len(drawing.strokes):
+def one_of(values, i):
+    if i >= len(values):
         raise NoSuch()
-    return drawing.strokes[i]
+    return values[i]
 
 
 def name_of(drawing, k):
-    label = drawing.label if k == 0 else stroke_at(drawing, k - 1).label
+    label = drawing.label if k == 0 else one_of(drawing.strokes, k - 1).label
     return [len(label)] + label
 
 
@@ -246,9 +246,17 @@ def name(k, t):
 
 
 def stroke_of(drawing, i):
-    found = stroke_at(drawing, i)
+    found = one_of(drawing.strokes, i)
     return [found.paint, found.brush, len(found.places)]
 
 
 def stroke(i, t):
     return answer(t, lambda drawing: stroke_of(drawing, i))
+
+
+def place(i, k, t):
+    return answer(t, lambda drawing: list(one_of(one_of(drawing.strokes, i).places, k)))
+
+
+def fill(i, t):
+    return answer(t, lambda drawing: list(one_of(drawing.fills, i)))

@@ -3,24 +3,26 @@
 import contextlib
 import inspect
 import io
+import itertools
 import sys
 import unittest
 
 from helper import EVERYDAY, as_bytes, greatest_text
 from pensheets import drawings
 
-ARGUMENTS = {"judge": ["t"], "sizes": ["t"], "name": ["k", "t"], "stroke": ["i", "t"]}
+ARGUMENTS = {
+    "judge": ["t"], "sizes": ["t"], "name": ["k", "t"], "stroke": ["i", "t"], "place": ["i", "k", "t"],
+    "fill": ["i", "t"],
+}
+NUMBERS = (0, 1, 2, 3, 10 ** 60)
 TEXTS = ["", "drawing a 1 1\n", EVERYDAY, EVERYDAY[:-1], EVERYDAY + "x", " " * 65537]
 
 
 def calls(t):
     """Each call as a function's name and its arguments."""
     for name, arguments in ARGUMENTS.items():
-        if arguments == ["t"]:
-            yield name, [t]
-        else:
-            for number in (0, 1, 2, 3, 10 ** 60):
-                yield name, [number, t]
+        for numbers in itertools.product(NUMBERS, repeat=len(arguments) - 1):
+            yield name, [*numbers, t]
 
 
 def answers(t):
