@@ -1,5 +1,6 @@
-"""What the tests share: drawings' texts, and the fault by its definition, found without the program."""
+"""What the tests share: drawings' texts, and faults, ink and regions by their definitions, without the program."""
 
+import fractions
 import functools
 import re
 
@@ -109,3 +110,79 @@ def fault(text):
 
 def verdict(text):
     return [0] if is_drawing(text) else [-6, fault(text)]
+
+
+def drawing_text(width, height, strokes=(), fills=()):
+    """Strokes are (paint, brush, places), fills (paint, x, y)."""
+    told = "".join(stroke_line(f"s{i}", *stroke) for i, stroke in enumerate(strokes))
+    return f"drawing d {width} {height}\n{told}" + "".join(f"fill {p} {x},{y}\n" for p, x, y in fills)
+
+
+def nearest(value):
+    """The whole number nearest to a fraction, the greater one of two that are as near."""
+    below = value.numerator // value.denominator
+    return max((below, below + 1), key=lambda whole: (-abs(value - whole), whole))
+
+
+def straight_places(start, end):
+    (x, y), (u, v) = start, end
+    n = max(abs(u - x), abs(v - y))
+    if n == 0:
+        return [start]
+    return [(x + nearest(fractions.Fraction(i * (u - x), n)), y + nearest(fractions.Fraction(i * (v - y), n)))
+            for i in range(n + 1)]
+
+
+def dab_places(places):
+    if len(places) == 1:
+        return set(places)
+    return {place for start, end in zip(places, places[1:]) for place in straight_places(start, end)}
+
+
+def inked_points(width, height, strokes):
+    """The inked sheet by its definition: each point is asked whether it's in one of a stroke's dabs."""
+    points = [0] * (width * height)
+    for paint, brush, places in strokes:
+        near = [(x, y) for x, y in dab_places(places) if -8 <= x < width + 8 and -8 <= y < height + 8]
+        for number in range(width * height):
+            px, py = number % width, number // width
+            if any(4 * ((px - x) ** 2 + (py - y) ** 2) <= brush ** 2 for x, y in near):
+                points[number] = paint
+    return points
+
+
+def region_points(width, height, points, x, y):
+    """The region by its definition: what's beside is added again and again until nothing is new."""
+    clear = {(k % width, k // width) for k in range(width * height) if points[k] == 0}
+    region = {(x, y)}
+    while True:
+        grown = region | {(a + c, b + d) for a, b in region for c, d in ((0, -1), (1, 0), (0, 1), (-1, 0))} & clear
+        if grown == region:
+            return region
+        region = grown
+
+
+def checked(width, height, strokes, fills):
+    points = inked_points(width, height, strokes)
+    before = []
+    for number, (paint, x, y) in enumerate(fills):
+        if points[y * width + x] != 0:
+            return [-8, 1, number]
+        region = region_points(width, height, points, x, y)
+        if any(a in (0, width - 1) or b in (0, height - 1) for a, b in region):
+            return [-8, 2, number]
+        if region in before:
+            return [-8, 3, number]
+        before.append(region)
+    return [0]
+
+
+def picture_text(picture):
+    """A drawing whose inked sheet looks so: # is ink, each run of it a stroke; 0 to 9 are fills by their numbers."""
+    rows = picture.split()
+    strokes, fills = [], []
+    for y, row in enumerate(rows):
+        strokes += [(1, 0, [(run.start(), y), (run.end() - 1, y)]) for run in re.finditer("#+", row)]
+        fills += [(sign, x, y) for x, sign in enumerate(row) if sign.isdigit()]
+    told = [(int(sign) + 1, x, y) for sign, x, y in sorted(fills)]
+    return drawing_text(len(rows[0]), len(rows), strokes, told)

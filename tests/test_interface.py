@@ -7,15 +7,18 @@ import itertools
 import sys
 import unittest
 
-from helper import EVERYDAY, as_bytes, greatest_text
+from helper import EVERYDAY, as_bytes, drawing_text, greatest_text, picture_text
 from pensheets import drawings
 
 ARGUMENTS = {
     "judge": ["t"], "sizes": ["t"], "name": ["k", "t"], "stroke": ["i", "t"], "place": ["i", "k", "t"],
-    "fill": ["i", "t"],
+    "fill": ["i", "t"], "inked": ["t"], "check": ["t"],
 }
 NUMBERS = (0, 1, 2, 3, 10 ** 60)
-TEXTS = ["", "drawing a 1 1\n", EVERYDAY, EVERYDAY[:-1], EVERYDAY + "x", " " * 65537]
+TEXTS = ["", "drawing a 1 1\n", EVERYDAY, EVERYDAY[:-1], EVERYDAY + "x", " " * 65537,
+         picture_text("##### #0#1# #####"), picture_text("##### #0.1# #####")]
+GREAT = [greatest_text(), drawing_text(256, 256, [(1, 0, [(0, 0), (255, 0), (255, 255), (0, 255), (0, 0)])],
+                                       [(2, 9, 9), (3, 10, 9)])]
 
 
 def calls(t):
@@ -81,14 +84,13 @@ class Interface(unittest.TestCase):
         self.assertEqual(set(sys.modules), before)
 
     def test_long_texts_are_gone_through_by_loops(self):
-        t = as_bytes(greatest_text())
         limit = sys.getrecursionlimit()
         sys.setrecursionlimit(len(inspect.stack()) + 40)
         try:
-            found = answers(t)
+            found = [answers(as_bytes(text)) for text in GREAT]
         finally:
             sys.setrecursionlimit(limit)
-        self.assertEqual(found, answers(t))
+        self.assertEqual(found, [answers(as_bytes(text)) for text in GREAT])
 
 
 if __name__ == "__main__":

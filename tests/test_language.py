@@ -51,6 +51,11 @@ def nodes(kind):
                 yield path, node
 
 
+def defined_in(tree):
+    names = [node.name for node in tree.body if isinstance(node, (ast.FunctionDef, ast.ClassDef))]
+    return names + [node.targets[0].id for node in tree.body if isinstance(node, ast.Assign)]
+
+
 class Language(unittest.TestCase):
 
     def test_files(self):
@@ -105,7 +110,36 @@ class Language(unittest.TestCase):
     def test_imports_are_the_packages_own(self):
         for path, node in nodes(ast.ImportFrom):
             self.assertEqual(node.level, 0)
-            self.assertRegex(node.module, r"^pensheets\.")
+            self.assertRegex(node.module, r"^pensheets\.[a-z]+$")
+            source = ast.parse((PACKAGE / f"{node.module[10:]}.py").read_text("ascii"))
+            for drawn in node.names:
+                self.assertIn(drawn.name, defined_in(source), (path.name, node.lineno))
+                self.assertIsNone(drawn.asname)
+
+    def test_imports_stand_at_the_top(self):
+        for path, tree in trees():
+            rows = [node for node in tree.body if isinstance(node, ast.ImportFrom)]
+            self.assertEqual(tree.body[1:1 + len(rows)], rows, path.name)
+            self.assertEqual(len(rows), sum(isinstance(node, ast.ImportFrom) for node in ast.walk(tree)), path.name)
+
+    def test_no_two_files_draw_from_one_another(self):
+        drawn = {path.stem: {node.module[10:] for node in tree.body if isinstance(node, ast.ImportFrom)}
+                 for path, tree in trees()}
+        while drawn:
+            last = [name for name in drawn if not drawn[name] & set(drawn)]
+            self.assertNotEqual(last, [], drawn)
+            for name in last:
+                del drawn[name]
+
+    def test_nothing_is_called_like_a_class_or_an_import_of_its_file(self):
+        for path, tree in trees():
+            taken = {drawn.name for node in tree.body if isinstance(node, ast.ImportFrom) for drawn in node.names}
+            taken |= {node.name for node in tree.body if isinstance(node, ast.ClassDef)}
+            for node in ast.walk(tree):
+                if isinstance(node, ast.arg):
+                    self.assertNotIn(node.arg, taken, (path.name, node.lineno))
+                if isinstance(node, ast.Name) and isinstance(node.ctx, ast.Store):
+                    self.assertNotIn(node.id, taken, (path.name, node.lineno))
 
     def test_names(self):
         bound = set()
