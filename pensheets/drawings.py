@@ -17,6 +17,11 @@ class NotRight(Exception):
         self.number = number
 
 
+# Refused by -3.
+class NoneThere(Exception):
+    pass
+
+
 # What ask answers of the text's drawing, or the refusal: its number alone.
 def answer(t, ask):
     try:
@@ -27,6 +32,10 @@ def answer(t, ask):
         return [-6]
     except NoSuch:
         return [-4]
+    except NotRight:
+        return [-8]
+    except NoneThere:
+        return [-3]
 
 
 def judge(t):
@@ -80,33 +89,36 @@ def fill(i, t):
     return answer(t, lambda drawing: list(one_of(drawing.fills, i)))
 
 
-def inked_of(drawing):
-    paints = ink(drawing).paints
-    return [len(paints)] + paints
+def points_of(sheet):
+    return [len(sheet.paints)] + sheet.paints
 
 
 def inked(t):
-    return answer(t, inked_of)
+    return answer(t, lambda drawing: points_of(ink(drawing)))
 
 
-def refuse_wrong_fills(drawing, sheet):
+# The region of each fill, on the inked sheet, if the drawing is right.
+def right_regions(drawing, sheet):
+    regions = []
     before = {}
     for number, told in enumerate(drawing.fills):
         point = sheet.number_of(told[1], told[2])
-        if sheet.paints[point] != 0:
+        if not sheet.is_clear(point):
             raise NotRight(1, number)
         found = sheet.region_from(point)
-        if any([sheet.is_at_edge(one) for one in found]):
+        if sheet.points_at_edge(found) != []:
             raise NotRight(2, number)
         if point in before:
             raise NotRight(3, number)
         for one in found:
             before[one] = True
+        regions.append(found)
+    return regions
 
 
 def check_of(drawing):
     try:
-        refuse_wrong_fills(drawing, ink(drawing))
+        right_regions(drawing, ink(drawing))
     except NotRight as refusal:
         return [-8, refusal.kind, refusal.number]
     return [0]
@@ -114,3 +126,31 @@ def check_of(drawing):
 
 def check(t):
     return answer(t, check_of)
+
+
+def painted_of(drawing):
+    sheet = ink(drawing)
+    for told, found in zip(drawing.fills, right_regions(drawing, sheet)):
+        sheet.put(told[0], found)
+    return points_of(sheet)
+
+
+def painted(t):
+    return answer(t, painted_of)
+
+
+def region_of(drawing, i):
+    told = one_of(drawing.fills, i)
+    sheet = ink(drawing)
+    point = sheet.number_of(told[1], told[2])
+    if not sheet.is_clear(point):
+        raise NoneThere()
+    found = sheet.region_from(point)
+    leaks = 0 if sheet.points_at_edge(found) == [] else 1
+    xs = [sheet.x_of(one) for one in found]
+    ys = [sheet.y_of(one) for one in found]
+    return [len(found), leaks, min(xs), min(ys), max(xs), max(ys)]
+
+
+def region(i, t):
+    return answer(t, lambda drawing: region_of(drawing, i))

@@ -12,19 +12,32 @@ class Sheet:
     def number_of(self, x, y):
         return y * self.width + x
 
+    def x_of(self, point):
+        return point % self.width
+
+    def y_of(self, point):
+        return point // self.width
+
+    def is_clear(self, point):
+        return self.paints[point] == 0
+
     def is_at_edge(self, point):
-        return point % self.width in (0, self.width - 1) or point // self.width in (0, self.height - 1)
+        return self.x_of(point) in (0, self.width - 1) or self.y_of(point) in (0, self.height - 1)
+
+    # Those of the points that are at the edge.
+    def points_at_edge(self, points):
+        return [point for point in points if self.is_at_edge(point)]
 
     # The upper, right, lower, left one, as far as they're on the sheet.
     def points_beside(self, point):
         found = []
-        if point // self.width > 0:
+        if self.y_of(point) > 0:
             found.append(point - self.width)
-        if point % self.width < self.width - 1:
+        if self.x_of(point) < self.width - 1:
             found.append(point + 1)
-        if point // self.width < self.height - 1:
+        if self.y_of(point) < self.height - 1:
             found.append(point + self.width)
-        if point % self.width > 0:
+        if self.x_of(point) > 0:
             found.append(point - 1)
         return found
 
@@ -35,8 +48,12 @@ class Sheet:
         gone_from = 0
         while gone_from < len(reached):
             for near in self.points_beside(reached[gone_from]):
-                if self.paints[near] == 0 and near not in known:
+                if self.is_clear(near) and near not in known:
                     known[near] = True
                     reached.append(near)
             gone_from += 1
         return reached
+
+    def put(self, paint, points):
+        for point in points:
+            self.paints[point] = paint

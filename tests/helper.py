@@ -169,12 +169,45 @@ def checked(width, height, strokes, fills):
         if points[y * width + x] != 0:
             return [-8, 1, number]
         region = region_points(width, height, points, x, y)
-        if any(a in (0, width - 1) or b in (0, height - 1) for a, b in region):
+        if any(is_out(width, height, a, b) for a, b in region):
             return [-8, 2, number]
         if region in before:
             return [-8, 3, number]
         before.append(region)
     return [0]
+
+
+def is_out(width, height, x, y):
+    return x in (0, width - 1) or y in (0, height - 1)
+
+
+def region_told(width, height, strokes, fill):
+    """What's asked of a fill's region: its six numbers, or -3."""
+    points = inked_points(width, height, strokes)
+    paint, x, y = fill
+    if points[y * width + x] != 0:
+        return [-3]
+    region = region_points(width, height, points, x, y)
+    leaks = any(is_out(width, height, a, b) for a, b in region)
+    xs, ys = [a for a, b in region], [b for a, b in region]
+    return [len(region), int(leaks), min(xs), min(ys), max(xs), max(ys)]
+
+
+def painted_points(width, height, strokes, fills):
+    """The painted sheet of a right drawing: each fill's region is sought in the inked one."""
+    points = inked_points(width, height, strokes)
+    painted = list(points)
+    for paint, x, y in fills:
+        for a, b in region_points(width, height, points, x, y):
+            painted[b * width + a] = paint
+    return painted
+
+
+def winding_walls(rows):
+    """Strokes that enclose a passage from row 1 to row rows - 1 (rows is even): walls that leave a gap at the right and
+    at the left in turn, and last a rim around."""
+    walls = [(1, 0, [(0, y), (253, y)] if y % 4 == 2 else [(2, y), (255, y)]) for y in range(2, rows, 2)]
+    return walls + [(1, 0, [(0, 0), (255, 0), (255, rows), (0, rows), (0, 0)])]
 
 
 def picture_text(picture):

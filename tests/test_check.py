@@ -3,7 +3,8 @@
 import random
 import unittest
 
-from helper import EVERYDAY, as_bytes, checked, drawing_text, fill_lines, greatest_text, picture_text, stroke_line
+from helper import (EVERYDAY, as_bytes, checked, drawing_text, fill_lines, greatest_text, picture_text, stroke_line,
+                    winding_walls)
 from pensheets.drawings import check, inked
 
 
@@ -190,9 +191,7 @@ class Great(Check):
         self.told(drawing_text(256, 256, [(1, 0, rim[:-1])], [(2, 1, 1)]), [-8, 2, 0])
 
     def test_a_long_winding_region(self):
-        # Walls from the left and from the right in turn: the region is one way of thousands of points.
-        walls = [(1, 0, [(0, y), (253, y)] if y % 4 == 2 else [(2, y), (255, y)]) for y in range(2, 122, 2)]
-        rim = (1, 0, [(0, 0), (255, 0), (255, 122), (0, 122), (0, 0)])
+        *walls, rim = winding_walls(122)
         self.told(drawing_text(256, 256, walls + [rim], [(2, 5, 1)]), [0])
         self.told(drawing_text(256, 256, walls + [rim], [(2, 5, 1), (2, 5, 121)]), [-8, 3, 1])
         gap = (1, 0, [(0, 0), (255, 0), (255, 122), (1, 122)])

@@ -12,7 +12,7 @@ from pensheets import drawings
 
 ARGUMENTS = {
     "judge": ["t"], "sizes": ["t"], "name": ["k", "t"], "stroke": ["i", "t"], "place": ["i", "k", "t"],
-    "fill": ["i", "t"], "inked": ["t"], "check": ["t"],
+    "fill": ["i", "t"], "inked": ["t"], "check": ["t"], "painted": ["t"], "region": ["i", "t"],
 }
 NUMBERS = (0, 1, 2, 3, 10 ** 60)
 TEXTS = ["", "drawing a 1 1\n", EVERYDAY, EVERYDAY[:-1], EVERYDAY + "x", " " * 65537,
