@@ -1,7 +1,7 @@
 """Drawings: each call answers what the drawing of a text holds, or refuses."""
 
-from pensheets.inking import ink
-from pensheets.reading import NoDrawing, TooLong, read_drawing
+from pensheets.inking import along, ink, steps_between
+from pensheets.reading import FARTHEST, NoDrawing, TooLong, read_drawing
 
 
 # Refused by -4.
@@ -139,13 +139,18 @@ def painted(t):
     return answer(t, painted_of)
 
 
-def region_of(drawing, i):
-    told = one_of(drawing.fills, i)
-    sheet = ink(drawing)
+# The point of a fill that has a region.
+def clear_point(sheet, told):
     point = sheet.number_of(told[1], told[2])
     if not sheet.is_clear(point):
         raise NoneThere()
-    found = sheet.region_from(point)
+    return point
+
+
+def region_of(drawing, i):
+    told = one_of(drawing.fills, i)
+    sheet = ink(drawing)
+    found = sheet.region_from(clear_point(sheet, told))
     leaks = 0 if sheet.points_at_edge(found) == [] else 1
     xs = [sheet.x_of(one) for one in found]
     ys = [sheet.y_of(one) for one in found]
@@ -154,3 +159,26 @@ def region_of(drawing, i):
 
 def region(i, t):
     return answer(t, lambda drawing: region_of(drawing, i))
+
+
+def way_of(drawing, i):
+    told = one_of(drawing.fills, i)
+    sheet = ink(drawing)
+    points = sheet.way_from(clear_point(sheet, told))
+    if points == []:
+        raise NoneThere()
+    return points
+
+
+def way(i, t):
+    return answer(t, lambda drawing: way_of(drawing, i))
+
+
+def straight(x, y, u, v):
+    if any([abs(told) > FARTHEST for told in (x, y, u, v)]):
+        return [-1]
+    n = steps_between((x, y), (u, v))
+    numbers = []
+    for i in range(n + 1):
+        numbers.extend([along(x, u, i, n), along(y, v, i, n)])
+    return numbers

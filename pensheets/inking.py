@@ -6,6 +6,11 @@ from pensheets.sheets import Sheet
 MARGIN = 8
 
 
+# How many steps a straight has.
+def steps_between(start, end):
+    return max(abs(end[0] - start[0]), abs(end[1] - start[1]))
+
+
 # Where a straight of n steps that goes from start to end is after i of them, in x or in y.
 def along(start, end, i, n):
     if n == 0:
@@ -16,7 +21,7 @@ def along(start, end, i, n):
 # The places of a stroke's dabs are marked as bits, so that all of a row are spread at once:
 # bit x + MARGIN of row y + MARGIN is the place (x, y).
 def mark_straight(rows, width, start, end):
-    n = max(abs(end[0] - start[0]), abs(end[1] - start[1]))
+    n = steps_between(start, end)
     i = 0
     while i <= n:
         bit = along(start[0], end[0], i, n) + MARGIN

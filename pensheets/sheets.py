@@ -1,4 +1,4 @@
-"""Sheets: their points, what lies beside what, and regions."""
+"""Sheets: their points, what lies beside what, regions and ways out of them."""
 
 
 # A point is told by its number, but where x and y are handed over.
@@ -41,18 +41,35 @@ class Sheet:
             found.append(point - 1)
         return found
 
-    # All that's reached from a clear point.
-    def region_from(self, point):
-        reached = [point]
-        known = {point: True}
+    # How few steps over clear points lead to each that's reached from the starts, which are clear too.
+    def steps_from(self, starts):
+        steps = {}
+        for point in starts:
+            steps[point] = 0
+        reached = list(starts)
         gone_from = 0
         while gone_from < len(reached):
-            for near in self.points_beside(reached[gone_from]):
-                if self.is_clear(near) and near not in known:
-                    known[near] = True
+            point = reached[gone_from]
+            for near in self.points_beside(point):
+                if self.is_clear(near) and near not in steps:
+                    steps[near] = steps[point] + 1
                     reached.append(near)
             gone_from += 1
-        return reached
+        return steps
+
+    # All that's reached from a clear point.
+    def region_from(self, point):
+        return list(self.steps_from([point]))
+
+    # The way out of a clear point's region; without any point if the region doesn't leak.
+    def way_from(self, point):
+        # Ways are the same either way round: so many steps are left as lead there from the edge.
+        left = self.steps_from(self.points_at_edge(self.region_from(point)))
+        way = [point] if point in left else []
+        while way != [] and left[way[-1]] > 0:
+            fewer = [near for near in self.points_beside(way[-1]) if near in left and left[near] < left[way[-1]]]
+            way.append(fewer[0])
+        return way
 
     def put(self, paint, points):
         for point in points:

@@ -26,6 +26,14 @@ def as_bytes(text):
     return list(text.encode("latin-1"))
 
 
+def assert_same(case, found, asked, told=""):
+    """As assertEqual of two lists, but of long ones it doesn't seek all differences, for hours."""
+    if found != asked:
+        at = next((k for k, (one, other) in enumerate(zip(found, asked)) if one != other), min(len(found), len(asked)))
+        one, other = str(found[at:at + 20])[:900], str(asked[at:at + 20])[:900]
+        case.fail(f"from {at} on {one}, not {other}: {str(told)[:2000]}")
+
+
 def stroke_line(name, paint=1, brush=0, places=((0, 0),)):
     told = "".join(f" {x},{y}" for x, y in places)
     return f"stroke {name} {paint} {brush}{told}\n"
@@ -151,12 +159,17 @@ def inked_points(width, height, strokes):
     return points
 
 
+def beside(x, y):
+    """The upper, right, lower, left point."""
+    return [(x, y - 1), (x + 1, y), (x, y + 1), (x - 1, y)]
+
+
 def region_points(width, height, points, x, y):
     """The region by its definition: what's beside is added again and again until nothing is new."""
     clear = {(k % width, k // width) for k in range(width * height) if points[k] == 0}
     region = {(x, y)}
     while True:
-        grown = region | {(a + c, b + d) for a, b in region for c, d in ((0, -1), (1, 0), (0, 1), (-1, 0))} & clear
+        grown = region | {near for a, b in region for near in beside(a, b)} & clear
         if grown == region:
             return region
         region = grown
@@ -203,10 +216,41 @@ def painted_points(width, height, strokes, fills):
     return painted
 
 
+def way_told(width, height, strokes, fill):
+    """What's asked of the way out: its points' numbers, or -3. The region is laid in layers, by steps from the edge."""
+    points = inked_points(width, height, strokes)
+    paint, x, y = fill
+    if points[y * width + x] != 0:
+        return [-3]
+    rest = region_points(width, height, points, x, y)
+    layer = {(a, b) for a, b in rest if is_out(width, height, a, b)}
+    layers = []
+    while layer and (x, y) not in layer:
+        layers.append(layer)
+        rest -= layer
+        layer = {near for a, b in layer for near in beside(a, b)} & rest
+    if not layer:
+        return [-3]
+    way = [(x, y)]
+    for layer in reversed(layers):
+        way.append(next(near for near in beside(*way[-1]) if near in layer))
+    return [b * width + a for a, b in way]
+
+
+def led(width, x, y, directions):
+    """The numbers of the points from (x, y) on: U leads to the upper one, R right, D down, L left."""
+    numbers = [y * width + x]
+    for direction in directions:
+        numbers.append(numbers[-1] + {"U": -width, "R": 1, "D": width, "L": -1}[direction])
+    return numbers
+
+
 def winding_walls(rows):
     """Strokes that enclose a passage from row 1 to row rows - 1 (rows is even): walls that leave a gap at the right and
     at the left in turn, and last a rim around."""
-    walls = [(1, 0, [(0, y), (253, y)] if y % 4 == 2 else [(2, y), (255, y)]) for y in range(2, rows, 2)]
+    left = [place for y in range(2, rows, 4) for place in ((0, y), (253, y), (0, y))]
+    right = [place for y in range(4, rows, 4) for place in ((255, y), (2, y), (255, y))]
+    walls = [(1, 0, comb[k:k + 63]) for comb in (left, right) for k in range(0, len(comb), 63)]
     return walls + [(1, 0, [(0, 0), (255, 0), (255, rows), (0, rows), (0, 0)])]
 
 

@@ -3,7 +3,7 @@
 import random
 import unittest
 
-from helper import EVERYDAY, as_bytes, drawing_text, fill_lines, greatest_text, inked_points, stroke_line
+from helper import EVERYDAY, as_bytes, assert_same, drawing_text, fill_lines, greatest_text, inked_points, stroke_line
 from pensheets.drawings import inked
 
 
@@ -23,7 +23,7 @@ class Inked(unittest.TestCase):
 
     def holds(self, width, height, strokes):
         asked = [width * height] + inked_points(width, height, strokes)
-        self.assertEqual(inked(as_bytes(drawing_text(width, height, strokes))), asked, (width, height, strokes))
+        assert_same(self, inked(as_bytes(drawing_text(width, height, strokes))), asked, (width, height, strokes))
 
 
 class Sheets(Inked):
@@ -31,7 +31,7 @@ class Sheets(Inked):
     def test_clear(self):
         for width, height in ((1, 1), (1, 256), (256, 1), (256, 256), (3, 2)):
             asked = [width * height] + [0] * (width * height)
-            self.assertEqual(inked(as_bytes(drawing_text(width, height))), asked)
+            assert_same(self, inked(as_bytes(drawing_text(width, height))), asked)
 
     def test_corners(self):
         for width, height in ((1, 1), (1, 256), (256, 1), (256, 256), (3, 2)):
@@ -39,7 +39,7 @@ class Sheets(Inked):
             points = [0] * (width * height)
             points[0] = 7
             points[-1] = 255
-            self.assertEqual(inked(as_bytes(text)), [width * height] + points)
+            assert_same(self, inked(as_bytes(text)), [width * height] + points)
 
     def test_a_point_has_the_number_y_w_plus_x(self):
         self.assertEqual(inked(as_bytes(drawing_text(3, 2, [(9, 0, [(2, 0)])]))), [6, 0, 0, 9, 0, 0, 0])
@@ -246,10 +246,10 @@ class Most(Inked):
         points = [64 if abs(k % 256 - k // 256) <= 11 else 0 for k in range(65536)]
         once = inked_points(40, 40, [(64, 16, [(-20, -20), (60, 60)])])
         self.assertEqual([points[y * 256 + x] for y in range(40) for x in range(40)], once)
-        self.assertEqual(inked(as_bytes(drawing_text(256, 256, strokes))), [65536] + points)
+        assert_same(self, inked(as_bytes(drawing_text(256, 256, strokes))), [65536] + points)
 
     def test_greatest_text(self):
-        self.assertEqual(inked(as_bytes(greatest_text())), [65536] + [0] * 65536)
+        assert_same(self, inked(as_bytes(greatest_text())), [65536] + [0] * 65536)
 
 
 class Refused(unittest.TestCase):

@@ -7,14 +7,16 @@ import itertools
 import sys
 import unittest
 
-from helper import EVERYDAY, as_bytes, drawing_text, greatest_text, picture_text
+from helper import EVERYDAY, as_bytes, assert_same, drawing_text, greatest_text, picture_text
 from pensheets import drawings
 
 ARGUMENTS = {
     "judge": ["t"], "sizes": ["t"], "name": ["k", "t"], "stroke": ["i", "t"], "place": ["i", "k", "t"],
     "fill": ["i", "t"], "inked": ["t"], "check": ["t"], "painted": ["t"], "region": ["i", "t"],
+    "way": ["i", "t"], "straight": ["x", "y", "u", "v"],
 }
 NUMBERS = (0, 1, 2, 3, 10 ** 60)
+STRAIGHTS = [(0, 0, 0, 0), (-1, -2, 3, 4), (-999, 999, 999, -998), (1000, 0, 0, 0), (0, 0, 0, -10 ** 60)]
 TEXTS = ["", "drawing a 1 1\n", EVERYDAY, EVERYDAY[:-1], EVERYDAY + "x", " " * 65537,
          picture_text("##### #0#1# #####"), picture_text("##### #0.1# #####")]
 GREAT = [greatest_text(), drawing_text(256, 256, [(1, 0, [(0, 0), (255, 0), (255, 255), (0, 255), (0, 0)])],
@@ -24,8 +26,11 @@ GREAT = [greatest_text(), drawing_text(256, 256, [(1, 0, [(0, 0), (255, 0), (255
 def calls(t):
     """Each call as a function's name and its arguments."""
     for name, arguments in ARGUMENTS.items():
-        for numbers in itertools.product(NUMBERS, repeat=len(arguments) - 1):
-            yield name, [*numbers, t]
+        if "t" in arguments:
+            for numbers in itertools.product(NUMBERS, repeat=len(arguments) - 1):
+                yield name, [*numbers, t]
+    for numbers in STRAIGHTS:
+        yield "straight", list(numbers)
 
 
 def answers(t):
@@ -90,7 +95,7 @@ class Interface(unittest.TestCase):
             found = [answers(as_bytes(text)) for text in GREAT]
         finally:
             sys.setrecursionlimit(limit)
-        self.assertEqual(found, [answers(as_bytes(text)) for text in GREAT])
+        assert_same(self, found, [answers(as_bytes(text)) for text in GREAT])
 
 
 if __name__ == "__main__":

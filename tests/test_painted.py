@@ -4,8 +4,8 @@ import itertools
 import random
 import unittest
 
-from helper import (EVERYDAY, as_bytes, checked, drawing_text, fill_lines, greatest_text, inked_points, painted_points,
-                    picture_text, stroke_line, winding_walls)
+from helper import (EVERYDAY, as_bytes, assert_same, checked, drawing_text, fill_lines, greatest_text, inked_points,
+                    painted_points, picture_text, stroke_line, winding_walls)
 from pensheets.drawings import check, inked, painted
 
 RING = [(1, 1), (4, 1), (4, 3), (1, 3), (1, 1)]
@@ -15,7 +15,7 @@ RIM = [(0, 0), (255, 0), (255, 255), (0, 255), (0, 0)]
 class Painted(unittest.TestCase):
 
     def told(self, text, asked):
-        self.assertEqual(painted(as_bytes(text)), asked, text[:2000])
+        assert_same(self, painted(as_bytes(text)), asked, text)
 
     def looks(self, text, picture):
         """A dot is clear, else a sign is the paint's number."""
@@ -38,7 +38,7 @@ class WithoutFills(Painted):
         for width, height in ((1, 1), (1, 256), (256, 1), (256, 256), (5, 7)):
             for strokes in ([], [(7, 3, [(0, 0), (9, 4)]), (255, 0, [(3, 5)])]):
                 t = as_bytes(drawing_text(width, height, strokes))
-                self.assertEqual(painted(t), inked(t))
+                assert_same(self, painted(t), inked(t))
                 self.assertEqual(painted(t)[0], width * height)
 
     def test_regions_without_a_fill_stay_clear(self):
